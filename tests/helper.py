@@ -31,6 +31,30 @@ def rests(team):
     return [6, team]
 
 
+def comes(team, watch, day):
+    return [7, team, watch, day]
+
+
+def cuts(watches, least, most):
+    return [8, watches, least, most]
+
+
+def kinds(teams):
+    return [9, teams]
+
+
+def swap(day, watch, otherday, other):
+    return [10, day, watch, otherday, other]
+
+
+def undo(exchange):
+    return [11, exchange]
+
+
+def swaps():
+    return [12]
+
+
 def line(calls):
     return [number for call in calls for number in call]
 

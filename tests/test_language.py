@@ -100,6 +100,33 @@ class Language(unittest.TestCase):
             if isinstance(node.func, ast.Attribute):
                 self.assertIn(node.func.attr, METHODS | own, place)
 
+    def test_no_local_is_called_like_an_import_or_a_class(self):
+        for name, tree in trees():
+            taken = {alias.asname or alias.name for node in tree.body if isinstance(node, ast.ImportFrom)
+                     for alias in node.names} | {node.name for node in tree.body if isinstance(node, ast.ClassDef)}
+            given = {node.arg for node in ast.walk(tree) if isinstance(node, ast.arg)}
+            given |= {node.id for node in ast.walk(tree)
+                      if isinstance(node, ast.Name) and isinstance(node.ctx, ast.Store)}
+            self.assertEqual(taken & given, set(), name)
+
+    def test_no_name_is_a_method_and_a_value(self):
+        methods = {node.name for _, owner in nodes(ast.ClassDef) for node in owner.body
+                   if isinstance(node, ast.FunctionDef)}
+        kept = {node.attr for _, node in nodes(ast.Attribute) if isinstance(node.ctx, ast.Store)}
+        self.assertEqual(methods & kept, set())
+        for name in (methods | kept) - set(SPECIAL_METHODS):
+            for own in ("", 0, [], {}, set(), b"", ()):
+                self.assertFalse(hasattr(own, name), name)
+
+    def test_no_two_files_draw_from_one_another(self):
+        drawn = {f"shipwatches.{path.stem}": [] for path in FILES}
+        for place, node in nodes(ast.ImportFrom):
+            drawn[f"shipwatches.{place.split('.')[0]}"].append(node.module)
+        while drawn:
+            free = [name for name, others in drawn.items() if not any(other in drawn for other in others)]
+            self.assertTrue(free, drawn)
+            drawn = {name: others for name, others in drawn.items() if name not in free}
+
 
 if __name__ == "__main__":
     unittest.main()

@@ -3,16 +3,24 @@
 import unittest
 
 from shipwatches.turn import answers
-from tests.helper import ask, begin, day, even, hours, line, rests, turn_round, who
+from tests.helper import (ask, begin, comes, cuts, day, even, hours, kinds, line, rests, swap, swaps, turn_round,
+                          undo, who)
 
 GOOD = begin(3, 1, [4, 4, 4, 2, 2, 4, 4])
 REFUSED = begin(3, 3, [12, 12])
+# Each call once that is answered behind GOOD, and each once that is refused there.
+ANSWERED = [swap(0, 0, 0, 1), who(5, 13), day(4), turn_round(), even(), hours(2, 1, 9), rests(0), comes(0, 0, 0),
+            cuts(3, 2, 9), kinds(4), swaps(), undo(0)]
+NOT_ANSWERED = [who(201, 0), who(0, 24), day(201), hours(3, 0, 1), hours(0, 2, 1), rests(3), comes(3, 0, 0),
+                comes(0, 7, 0), cuts(1, 1, 24), kinds(6), swap(201, 0, 0, 0), swap(0, 0, 0, 3), swap(0, 0, 0, 2),
+                undo(0)]
+REFUSALS = [[-1], [-1], [-1], [-2], [-1], [-2], [-2], [-1], [-1], [-1], [-1], [-3], [-7], [-2]]
 
 # Every call but begin, with numbers that are in order and with some that aren't.
 WITHOUT_SHIP = [
     who(0, 0), who(201, 24), day(0), day(300), turn_round(), even(), hours(0, 0, 1), hours(9, 300, 0),
-    rests(0), rests(9), [7, 0, 0, 0], [7, 9, 9, 300], [8, 2, 1, 23], [8, 0, 0, 30], [9, 2], [9, 0],
-    [10, 0, 0, 0, 1], [10, 300, 9, 300, 9], [11, 0], [11, 9], [12],
+    rests(0), rests(9), comes(0, 0, 0), comes(9, 9, 300), cuts(2, 1, 23), cuts(0, 0, 30), kinds(2), kinds(0),
+    swap(0, 0, 0, 1), swap(0, 0, 0, 0), swap(300, 9, 300, 9), undo(0), undo(9), swaps(),
 ]
 
 
@@ -60,17 +68,16 @@ class RefusedBegin(unittest.TestCase):
 
 class OtherRefusals(unittest.TestCase):
     def test_nothing_changes(self):
-        questions = [who(5, 13), day(4), turn_round(), even(), hours(2, 1, 9), rests(0)]
-        before = ask(GOOD, *questions)[1:]
-        refused = [who(201, 0), who(0, 24), day(201), hours(3, 0, 1), hours(0, 2, 1), rests(3)]
-        found = ask(GOOD, *refused, *questions)
-        self.assertEqual(found[1:7], [[-1], [-1], [-1], [-2], [-1], [-2]])
-        self.assertEqual(found[7:], before)
+        before = ask(GOOD, *ANSWERED)[1:]
+        found = ask(GOOD, *NOT_ANSWERED, *ANSWERED)
+        self.assertEqual(found[1:1 + len(REFUSALS)], REFUSALS)
+        self.assertEqual(found[1 + len(REFUSALS):], before)
 
 
 class AnyOrder(unittest.TestCase):
-    def test_an_answer_hangs_on_no_other_question(self):
-        questions = [who(5, 13), day(4), turn_round(), even(), hours(2, 1, 9), rests(0), day(201)]
+    def test_an_answer_hangs_on_no_question(self):
+        questions = [who(5, 13), day(4), turn_round(), even(), hours(2, 1, 9), rests(0), comes(0, 0, 0), cuts(3, 2, 9),
+                     kinds(4), swaps(), day(201)]
         alone = [ask(GOOD, question)[1] for question in questions]
         self.assertEqual(ask(GOOD, *questions)[1:], alone)
         self.assertEqual(ask(GOOD, *questions[::-1])[1:], alone[::-1])
@@ -88,11 +95,25 @@ class Interface(unittest.TestCase):
             even(),
             hours(0, 0, 1),
             rests(0),
+            comes(1, 0, 0),
+            cuts(2, 8, 16),
+            cuts(2, 13, 24),
+            kinds(2),
+            swaps(),
             begin(2, 2, [12, 12]),
             who(0, 24),
             day(201),
             hours(2, 0, 1),
             rests(2),
+            comes(2, 0, 0),
+            cuts(9, 1, 24),
+            kinds(1),
+            swap(0, 0, 0, 1),
+            undo(0),
+            begin(3, 0, [10, 6, 8]),
+            swap(1, 2, 1, 1),
+            swaps(),
+            undo(0),
         ])), [
             1, -9,
             1, 0,
@@ -102,11 +123,25 @@ class Interface(unittest.TestCase):
             3, 1, 24, 24,
             1, 18,
             2, 6, 10,
+            1, 1,
+            3, 9, 8, 16,
+            1, 0,
+            4, 3, 3, 5, 7,
+            1, 0,
             1, -1,
             1, -1,
             1, -1,
             1, -2,
             1, -2,
+            1, -2,
+            1, -1,
+            1, -1,
+            1, -7,
+            1, -2,
+            1, 0,
+            1, 0,
+            5, 1, 1, 2, 1, 1,
+            1, 0,
         ])
 
     def test_begin_is_read_to_the_end_of_its_lengths(self):
@@ -121,28 +156,29 @@ class Interface(unittest.TestCase):
         self.assertEqual(ask(*calls)[-2:], [[0, 1, 2, 0, 1, 2, 0], [3, 1]])
 
     def test_only_whole_numbers_are_given_back(self):
-        told = answers(line([day(0), GOOD, REFUSED, who(0, 0), day(0), turn_round(), even(), hours(0, 0, 1), rests(0),
-                             begin(4, 0, [3, 5, 4, 4, 4, 4]), turn_round(), even()]))
+        told = answers(line([day(0), GOOD, REFUSED, *ANSWERED, *NOT_ANSWERED, begin(4, 0, [3, 5, 4, 4, 4, 4]),
+                             turn_round(), even()]))
         self.assertIs(type(told), list)
         self.assertEqual([number for number in told if type(number) is not int], [])
 
     def test_the_list_handed_in_is_as_it_was(self):
-        calls = line([day(0), GOOD, REFUSED, who(0, 0), day(0), turn_round(), even(), hours(0, 0, 9), rests(0)])
+        calls = line([day(0), GOOD, REFUSED, *ANSWERED, *NOT_ANSWERED])
         handed = list(calls)
         told = answers(handed)
         self.assertEqual(handed, calls)
         self.assertEqual(answers(Untouched(calls)), told)
 
     def test_the_same_list_twice(self):
-        calls = line([day(0), GOOD, who(7, 7), day(8), turn_round(), even(), hours(0, 0, 9), rests(0)])
+        calls = line([day(0), GOOD, *ANSWERED, *NOT_ANSWERED, swap(9, 0, 9, 1), swaps()])
         once = answers(calls)
         self.assertEqual(answers(calls), once)
-        answers(line([begin(5, 4, [3] * 8), even()]))
+        answers(line([begin(5, 4, [3] * 8), even(), swap(0, 0, 0, 2)]))
         self.assertEqual(answers(calls), once)
 
     def test_nothing_is_kept_for_the_next_list(self):
-        answers(GOOD)
+        answers(line([GOOD, swap(0, 0, 0, 1)]))
         self.assertEqual(answers(day(0)), [1, -9])
+        self.assertEqual(ask(GOOD, swaps(), day(0)), [[0], [0], [1, 2, 0, 1, 2, 0, 1]])
 
     def test_what_is_given_back_is_the_caller_s(self):
         told = answers(line([GOOD, day(0)]))
